@@ -1,0 +1,1 @@
+"""Arithmetic circuits made of truth functions."""
