@@ -45,6 +45,34 @@ def total_call(i):
     return [6, i]
 
 
+def value_call(i, k):
+    return [7, i, k]
+
+
+def flow_call(i, k):
+    return [8, i, k]
+
+
+def parts_call(i):
+    return [9, i]
+
+
+def marginals_call(i):
+    return [10, i]
+
+
+def together_call(i, u, v):
+    return [11, i, u, v]
+
+
+def most_call(i):
+    return [12, i]
+
+
+def ways_call(i):
+    return [13, i]
+
+
 def flat(calls):
     return [number for call in calls for number in call]
 
@@ -131,6 +159,16 @@ def function_table(formula, how_many):
     return {truths: says(formula, truths) for truths in all_truths(how_many)}
 
 
+def large_table():
+    """What LARGE says, told in another way."""
+    table = {}
+    for truths in all_truths(12):
+        at = truths[8:12]
+        picked = truths[(0 if at[1] else 4) + (0 if at[2] else 2) + (0 if at[3] else 1)]
+        table[truths] = at[0] == picked
+    return table
+
+
 def table_formula(bits, how_many, first=0):
     """A formula for a function that is told by its bits, the first variable false ahead of true."""
     if first == how_many:
@@ -197,16 +235,135 @@ class SlowCircuit:
         return [len(self.nodes), sums, products, self.root]
 
 
-def slow_whole(table, weights):
-    """The sum of the products; weights are pairs of fractions, for yes and for no."""
-    whole = Fraction(0)
+def slow_values(circuit, weights):
+    """The value of every node of a SlowCircuit; weights are pairs of fractions, for yes and for no."""
+    values = []
+    for node in circuit.nodes:
+        if node[0] == 0:
+            values.append(Fraction(node[1], node[2]))
+        elif node[0] == 1:
+            values.append(weights[node[1]][0])
+        elif node[0] == 2:
+            values.append(weights[node[1]][1])
+        elif node[0] == 3:
+            values.append(values[node[1]] + values[node[2]])
+        else:
+            values.append(values[node[1]] * values[node[2]])
+    return values
+
+
+def slow_flows(circuit, weights):
+    values = slow_values(circuit, weights)
+    flows = [Fraction(0) for node in circuit.nodes]
+    flows[circuit.root] = Fraction(1)
+    for k, node in reversed(list(enumerate(circuit.nodes))):
+        if node[0] == 3:
+            flows[node[1]] += flows[k]
+            flows[node[2]] += flows[k]
+        elif node[0] == 4:
+            flows[node[1]] += flows[k] * values[node[2]]
+            flows[node[2]] += flows[k] * values[node[1]]
+    return flows
+
+
+def slow_products(table, weights):
+    """The truths for which the function says yes, each with its product."""
+    products = {}
     for truths, yes in table.items():
         if yes:
             one = Fraction(1)
             for truth, weight in zip(truths, weights):
                 one *= weight[0] if truth else weight[1]
-            whole += one
-    return whole
+            products[truths] = one
+    return products
+
+
+def slow_whole(table, weights):
+    return sum(slow_products(table, weights).values(), Fraction(0))
+
+
+def changed(weights, v, yes, no):
+    return weights[:v] + [(Fraction(yes), Fraction(no))] + weights[v + 1:]
+
+
+def weigh_calls(weights):
+    """The calls that set these pairs of fractions, none of them beyond 10^18 over 10^18."""
+    return [weigh_call(v, yes.numerator, yes.denominator, no.numerator, no.denominator)
+            for v, (yes, no) in enumerate(weights)]
+
+
+def by_chances(chances):
+    return [(chance, 1 - chance) for chance in chances]
+
+
+def fractions_of(answer, begin=1):
+    """The fractions that stand in an answer from there on; all in lowest terms."""
+    told = []
+    for at in range(begin, len(answer), 2):
+        fraction = Fraction(answer[at], answer[at + 1])
+        assert [fraction.numerator, fraction.denominator] == answer[at:at + 2], answer
+        told.append(fraction)
+    return told
+
+
+def ordinary(numbers):
+    return Fraction(numbers.below(20) + 1, numbers.below(20) + 1)
+
+
+def often_zero(numbers):
+    return Fraction(numbers.below(2) * numbers.below(4), numbers.below(5) + 1)
+
+
+def above_one(numbers):
+    return Fraction(numbers.below(1000) + 50, numbers.below(50) + 1)
+
+
+def long_both(numbers):
+    return Fraction(10 ** 18 - numbers.below(1000), 10 ** 18 - numbers.below(1000))
+
+
+def long_above(numbers):
+    return Fraction(10 ** 18 - numbers.below(1000), numbers.below(3) + 1)
+
+
+def long_below(numbers):
+    return Fraction(numbers.below(3), 10 ** 18 - numbers.below(1000))
+
+
+def few_kinds(numbers):
+    """Weights of which many products are alike."""
+    return Fraction(numbers.below(3), 2)
+
+
+PICKS = (ordinary, often_zero, above_one, long_both, long_above, long_below, few_kinds)
+
+
+class Case:
+    """A function of some variables with weights, and the calls that make an object of it with this one circuit."""
+
+    def __init__(self, formula, weights):
+        self.formula = formula
+        self.weights = weights
+        self.how_many = len(weights)
+        self.table = function_table(formula, self.how_many)
+        self.whole = slow_whole(self.table, weights)
+        self.made = [vars_call(told_variables([Fraction(1, 2)] * self.how_many)), add_call(written(formula, NAMES))]
+
+    def weighed(self):
+        return self.made + weigh_calls(self.weights)
+
+    def ask(self, *calls):
+        return ask(*self.weighed(), *calls)[-len(calls):]
+
+
+def cases(seed, sizes=(1, 2, 3, 4, 5, 6), turns=3):
+    numbers = Numbers(seed)
+    for how_many in sizes:
+        for pick in PICKS:
+            for turn in range(turns):
+                formula = random_formula(numbers, how_many, 6)
+                weights = [(pick(numbers), pick(numbers)) for v in range(how_many)]
+                yield Case(formula, weights)
 
 
 def told_variables(chances):

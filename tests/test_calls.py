@@ -1,13 +1,32 @@
 import unittest
 
 from tests.support import (
-    LARGE, NAMES, add_call, ask, clear_call, last, node_call, size_call, total_call, vars_call, weigh_call,
+    LARGE, NAMES, add_call, ask, clear_call, flow_call, last, marginals_call, most_call, node_call, parts_call,
+    size_call, together_call, total_call, value_call, vars_call, ways_call, weigh_call,
 )
 from truthcircuitsdesk.desk import Desk, answer_add
 from truthcircuitsdesk.variables import Variables
 
 E18 = 10 ** 18
 VARIABLES = vars_call("a:1/2,b:1/3")
+
+
+def circuit_calls(i):
+    """All calls that name a circuit; what else they name is there or is not."""
+    return [
+        size_call(i), node_call(i, 0), node_call(i, -1), node_call(i, E18), total_call(i), value_call(i, 0),
+        value_call(i, -1), value_call(i, E18), flow_call(i, 0), flow_call(i, -1), flow_call(i, E18), parts_call(i),
+        marginals_call(i), together_call(i, 0, 1), together_call(i, -1, 0), together_call(i, 0, E18), most_call(i),
+        ways_call(i),
+    ]
+
+
+def all_of(i):
+    """One call of each kind that looks at a circuit of two variables, without a refusal."""
+    return [
+        size_call(i), node_call(i, 3), total_call(i), value_call(i, 3), flow_call(i, 3), parts_call(i),
+        marginals_call(i), together_call(i, 0, 1), most_call(i), ways_call(i),
+    ]
 
 
 def desk_of(names):
@@ -24,7 +43,7 @@ class NoVariables(unittest.TestCase):
     def test_every_call_but_vars(self):
         for call in (add_call("a"), add_call("!"), add_call(""), size_call(0), node_call(0, 0),
                      weigh_call(0, 1, 1, 1, 1), weigh_call(-1, -1, 0, -1, 0), clear_call(), total_call(0),
-                     total_call(-5)):
+                     total_call(-5), *circuit_calls(0), *circuit_calls(-1), *circuit_calls(E18)):
             with self.subTest(call=call):
                 self.assertEqual(ask(call, vars_call("a:1")), [[-1], [1]])
 
@@ -34,14 +53,15 @@ class NoVariables(unittest.TestCase):
 
 class NoSuchCircuit(unittest.TestCase):
     def test_none_yet(self):
-        for call in (size_call(0), node_call(0, 0), total_call(0)):
+        for call in circuit_calls(0):
             self.assertEqual(last(VARIABLES, call), [-2])
 
     def test_outside_the_numbers(self):
         for i in (-1, 2, -2, 16, E18, -E18):
-            for call in (size_call(i), node_call(i, 0), node_call(i, -1), node_call(i, E18), total_call(i)):
+            for call in circuit_calls(i):
                 with self.subTest(call=call):
                     self.assertEqual(last(VARIABLES, add_call("a"), add_call("b"), call), [-2])
+                    self.assertEqual(last(VARIABLES, add_call("false"), add_call("false"), call), [-2])
 
     def test_a_formula_at_fault_makes_none(self):
         self.assertEqual(ask(VARIABLES, add_call("x"), size_call(0), add_call("a"))[1:], [[0, 6, 0], [-2], [1, 0]])
@@ -157,15 +177,81 @@ class VarsAgain(unittest.TestCase):
                 self.assertEqual(told[4:], [[1, 1, 2], [10, 2, 2, 9], [1, 1], [1, 1, 6], [1], [1, 2, 3], [1], [-5]])
 
 
+class TheWholeIs0(unittest.TestCase):
+    def test_which_calls_are_refused(self):
+        for first in ([add_call("false")], [add_call("or(a,b)"), weigh_call(0, 0, 1, 0, 1)]):
+            told = ask(VARIABLES, *first, marginals_call(0), together_call(0, 0, 1), most_call(0), total_call(0),
+                       together_call(0, 2, 0), parts_call(0), ways_call(0))[1 + len(first):]
+            self.assertEqual(told[:5], [[-6], [-6], [-6], [1, 0, 1], [-5]])
+            self.assertEqual([told[5][0], len(told[5]), len(told[6])], [2, 9, 1])
+
+    def test_no_longer_0(self):
+        told = ask(VARIABLES, add_call("or(a,b)"), weigh_call(0, 0, 1, 0, 1), *all_of(0), clear_call(), *all_of(0))
+        self.assertEqual(told[9:12], [[-6], [-6], [-6]])
+        self.assertEqual(told[20:23], [[2, 3, 4, 1, 2], [1, 1, 4], [1, 1, 3]])
+
+
 class RefusalsChangeNothing(unittest.TestCase):
     def test_one_after_another(self):
         refused = [node_call(0, 10), node_call(1, 0), size_call(1), total_call(-1), weigh_call(2, 1, 1, 1, 1),
-                   weigh_call(0, 1, 1, 1, 0), add_call("x"), add_call("!"), vars_call("a")]
+                   weigh_call(0, 1, 1, 1, 0), add_call("x"), add_call("!"), vars_call("a"), value_call(0, 10),
+                   value_call(1, 0), flow_call(0, -1), flow_call(-1, 0), parts_call(1), marginals_call(1),
+                   together_call(0, 0, 2), together_call(0, -1, 1), together_call(2, 0, 1), most_call(1), ways_call(-1)]
         for call in refused:
-            told = ask(VARIABLES, add_call("or(a,b)"), weigh_call(1, 5, 7, 3, 7), total_call(0), call, total_call(0),
-                       size_call(0), size_call(1), add_call("b"))
+            told = ask(VARIABLES, add_call("or(a,b)"), weigh_call(1, 5, 7, 3, 7), *all_of(0), call, *all_of(0),
+                       size_call(1), add_call("b"))
             with self.subTest(call=call):
-                self.assertEqual(told[5:], [told[3], [10, 2, 2, 9], [-2], [1, 1]])
+                self.assertTrue(told[13][0] <= 0)
+                self.assertEqual(told[14:24], told[3:13])
+                self.assertEqual(told[24:], [[-2], [1, 1]])
+
+    def test_the_whole_0(self):
+        refused = [marginals_call(1), together_call(1, 0, 1), most_call(1)]
+        for call in refused:
+            told = ask(VARIABLES, add_call("or(a,b)"), add_call("false"), weigh_call(1, 5, 7, 3, 7), *all_of(0), call,
+                       *all_of(0), size_call(2), add_call("b"))
+            with self.subTest(call=call):
+                self.assertEqual(told[14], [-6])
+                self.assertEqual(told[15:25], told[4:14])
+                self.assertEqual(told[25:], [[-2], [1, 2]])
+
+
+class AllCalls(unittest.TestCase):
+    BY_CHANCES = [[10, 2, 2, 9], [1, 1, 1], [1, 2, 3], [1, 1, 3], [1, 1, 1], [2, 1, 1, 1, 3, 1, 1, 1, 2],
+                  [2, 3, 4, 1, 2], [1, 1, 4], [1, 1, 3], [3]]
+    WEIGHED = [[10, 2, 2, 9], [1, 1, 1], [1, 5, 1], [1, 2, 1], [1, 2, 1], [2, 3, 1, 2, 1, 2, 1, 1, 1],
+               [2, 3, 5, 4, 5], [1, 2, 5], [2, 2, 1], [3]]
+
+    def weighed(self):
+        return [weigh_call(0, 1, 1, 1, 1), weigh_call(1, 2, 1, 1, 1)]
+
+    def test_after_weigh(self):
+        told = ask(VARIABLES, add_call("or(a,b)"), *all_of(0), *self.weighed(), *all_of(0))
+        self.assertEqual(told[2:12], self.BY_CHANCES)
+        self.assertEqual(told[14:], self.WEIGHED)
+
+    def test_after_clear(self):
+        told = ask(VARIABLES, add_call("or(a,b)"), *self.weighed(), *all_of(0), clear_call(), *all_of(0))
+        self.assertEqual(told[4:14], self.WEIGHED)
+        self.assertEqual(told[15:], self.BY_CHANCES)
+
+    def test_after_vars_again(self):
+        told = ask(VARIABLES, add_call("or(a,b)"), *self.weighed(), VARIABLES, *all_of(0), add_call("or(b,a)"),
+                   *all_of(0))
+        self.assertEqual(told[5:15], [[-2]] * 10)
+        self.assertEqual(told[16:], self.BY_CHANCES)
+
+    def test_after_vars_with_other_variables(self):
+        told = ask(VARIABLES, add_call("or(a,b)"), *self.weighed(), vars_call("x:1/4"), add_call("not(x)"), *all_of(0))
+        self.assertEqual(told[6:], [[4, 0, 0, 2], [1, 1, 0], [1, 3, 4], [1, 1, 4], [1, 0, 1], [1, 0, 1, 1, 1],
+                                    [1, 0, 1], [-5], [1, 3, 4], [1]])
+
+    def test_of_several_circuits(self):
+        told = ask(VARIABLES, add_call("and(a,b)"), add_call("or(a,b)"), add_call("false"), *all_of(1), *all_of(0),
+                   *all_of(1))
+        self.assertEqual(told[4:14], self.BY_CHANCES)
+        self.assertEqual(told[16], [1, 1, 6])
+        self.assertEqual(told[24:], self.BY_CHANCES)
 
 
 if __name__ == "__main__":

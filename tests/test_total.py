@@ -2,22 +2,16 @@ import unittest
 from fractions import Fraction
 
 from tests.support import (
-    LARGE, NAMES, Numbers, add_call, all_truths, ask, fraction_answer, function_table, last, random_formula, slow_whole,
-    told_variables, total_call, vars_call, weigh_call, written,
+    LARGE, NAMES, Numbers, add_call, ask, by_chances, fraction_answer, function_table, large_table, last,
+    random_formula, slow_whole, told_variables, total_call, vars_call, weigh_call, written,
 )
 
 E18 = 10 ** 18
 
 
-def by_chances(chances):
-    return [(chance, 1 - chance) for chance in chances]
-
-
-def weigh_calls(weights):
-    calls = []
-    for v, (yes, no) in enumerate(weights):
-        calls.append(weigh_call(v, yes[0], yes[1], no[0], no[1]))
-    return calls
+def weigh_pairs(weights):
+    """As weigh_calls, but of pairs that need not be in lowest terms."""
+    return [weigh_call(v, yes[0], yes[1], no[0], no[1]) for v, (yes, no) in enumerate(weights)]
 
 
 class AgainstAllTruths(unittest.TestCase):
@@ -32,7 +26,7 @@ class AgainstAllTruths(unittest.TestCase):
             told = [(pick(numbers), pick(numbers)) for v in range(how_many)]
             weights = [(Fraction(*yes), Fraction(*no)) for yes, no in told]
             answer = last(vars_call(told_variables([Fraction(1, 2)] * how_many)), add_call(written(formula, NAMES)),
-                          *weigh_calls(told), total_call(0))
+                          *weigh_pairs(told), total_call(0))
             self.assertEqual(answer, fraction_answer(slow_whole(function_table(formula, how_many), weights)))
 
     def test_by_the_chances(self):
@@ -61,15 +55,9 @@ class AgainstAllTruths(unittest.TestCase):
         numbers = Numbers(18)
         told = [((numbers.below(90), numbers.below(90) + 1), (numbers.below(90), numbers.below(90) + 1)) for v in NAMES]
         weights = [(Fraction(*yes), Fraction(*no)) for yes, no in told]
-
-        def large(truths):
-            at = truths[8:12]
-            mux = truths[(0 if at[1] else 4) + (0 if at[2] else 2) + (0 if at[3] else 1)]
-            return at[0] == mux
-        table = {truths: large(truths) for truths in all_truths(12)}
-        answer = last(vars_call(told_variables([Fraction(1, 2)] * 12)), add_call(LARGE), *weigh_calls(told),
+        answer = last(vars_call(told_variables([Fraction(1, 2)] * 12)), add_call(LARGE), *weigh_pairs(told),
                       total_call(0))
-        self.assertEqual(answer, fraction_answer(slow_whole(table, weights)))
+        self.assertEqual(answer, fraction_answer(slow_whole(large_table(), weights)))
 
 
 class Ordinary(unittest.TestCase):

@@ -18,6 +18,9 @@ class Circuit:
         self.nodes = nodes
         self.root = root
 
+    def has_node(self, number):
+        return 0 <= number < len(self.nodes)
+
     def count_kind(self, kind):
         return len([node for node in self.nodes if node[0] == kind])
 
